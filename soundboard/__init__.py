@@ -1,1 +1,1 @@
-"""A board of sound: a desk that makes orders for gains, each for a sample to come."""
+"""A board of sound: a desk makes orders for gains, each for a sample to come; boards put sounds together by them."""

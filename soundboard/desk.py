@@ -1,18 +1,27 @@
-"""The desk, and the list of calls that is answered one behind another."""
+"""The desk, and the list of calls on it and on two boards that is answered one behind another."""
 
-from soundboard.message import (
-    BUSES_MOST, CHANNELS_MOST, FADE_MOST, ORDERS_MOST, TIME_END, UNIT, Order, order_message, seal_message,
+from soundboard.board import Board
+from soundboard.bounds import (
+    FADE_MOST, NO_ROOM, NOT_AS_TOLD, NOT_THERE, ORDERS_MOST, TIME_END, TOO_EARLY, UNIT, sizes_as_told,
 )
+from soundboard.message import Order, Seal, order_message, seal_message
 
 SCENES = 16
 
-NOT_THERE = -2
-TOO_EARLY = -13
-NOT_AS_TOLD = -22
-NO_ROOM = -28
+SD_START = 0
+SD_SET = 1
+SD_KEEP = 2
+SD_GO = 3
+SD_SEAL = 4
+SD_AGAIN = 5
+SB_START = 6
+SB_HEARD = 7
+SB_LACKS = 8
+SB_GAIN = 9
+SB_MIX = 10
 
-# How many whole numbers stand behind a call's own number: sd_start, sd_set, sd_keep, sd_go, sd_seal, sd_again.
-NUMBERS_BEHIND = (2, 5, 1, 3, 1, 1)
+# How many whole numbers stand behind each call's own number, a row and its count aside.
+NUMBERS_BEHIND = (2, 5, 1, 3, 1, 1, 3, 1, 1, 4, 2)
 
 
 class Desk:
@@ -33,7 +42,7 @@ class Desk:
         self.scenes = {}
 
     def sd_start(self, channels, buses):
-        if not 1 <= channels <= CHANNELS_MOST or not 1 <= buses <= BUSES_MOST:
+        if not sizes_as_told(channels, buses):
             return [NOT_AS_TOLD]
         self.begin(channels, buses)
         return [0]
@@ -80,7 +89,7 @@ class Desk:
         if time < self.sealed:
             return [TOO_EARLY]
         self.sealed = time
-        return [len(self.orders)] + seal_message(len(self.orders), time)
+        return [len(self.orders)] + seal_message(Seal(len(self.orders), time))
 
     def sd_again(self, number):
         if number >= len(self.orders):
@@ -97,28 +106,50 @@ class Desk:
             self.goals[place] = order.gain
 
 
-def answer_of(desk, call, numbers):
-    if call == 0:
+def desk_answer(desk, call, numbers):
+    if call == SD_START:
         return desk.sd_start(numbers[0], numbers[1])
-    if call == 1:
+    if call == SD_SET:
         return desk.sd_set(numbers[0], numbers[1], numbers[2], numbers[3], numbers[4])
-    if call == 2:
+    if call == SD_KEEP:
         return desk.sd_keep(numbers[0])
-    if call == 3:
+    if call == SD_GO:
         return desk.sd_go(numbers[0], numbers[1], numbers[2])
-    if call == 4:
+    if call == SD_SEAL:
         return desk.sd_seal(numbers[0])
     return desk.sd_again(numbers[0])
 
 
+def board_answer(board, call, numbers, row):
+    if call == SB_START:
+        return board.sb_start(numbers[0], numbers[1])
+    if call == SB_HEARD:
+        return board.sb_heard(row)
+    if call == SB_LACKS:
+        return board.sb_lacks()
+    if call == SB_GAIN:
+        return board.sb_gain(numbers[0], numbers[1], numbers[2])
+    return board.sb_mix(row, numbers[0])
+
+
 def answers(calls):
-    """Answer the calls on a new desk: for each how many numbers are answered, then these."""
+    """Answer the calls on a new desk and new boards 0 and 1: for each how many numbers are answered, then these."""
     desk = Desk()
+    boards = [Board(), Board()]
     answered = []
     place = 0
     while place < len(calls):
-        behind = place + 1 + NUMBERS_BEHIND[calls[place]]
-        answer = answer_of(desk, calls[place], calls[place + 1:behind])
+        call = calls[place]
+        behind = place + 1 + NUMBERS_BEHIND[call]
+        numbers = calls[place + 1:behind]
+        row = []
+        if call in (SB_HEARD, SB_MIX):
+            row = calls[behind + 1:behind + 1 + calls[behind]]
+            behind += 1 + len(row)
+        if call < SB_START:
+            answer = desk_answer(desk, call, numbers)
+        else:
+            answer = board_answer(boards[numbers[0]], call, numbers[1:], row)
         answered.append(len(answer))
         answered.extend(answer)
         place = behind

@@ -2,7 +2,7 @@
 
 import unittest
 
-from desk_calls import (
+from calls import (
     TIME_END, again, crc_32c, filled, firsts, go, keep, last, order, run, seal, sealing, start, turn,
 )
 

@@ -1,4 +1,4 @@
-"""What the tests of the desk share: calls as lists of numbers, and messages worked out another way."""
+"""What the tests share: calls as lists of numbers, and messages worked out another way."""
 
 import struct
 
@@ -31,6 +31,26 @@ def again(number):
     return [5, number]
 
 
+def begin(board, channels, buses):
+    return [6, board, channels, buses]
+
+
+def hear(board, message):
+    return [7, board, len(message), *message]
+
+
+def lacks(board):
+    return [8, board]
+
+
+def gain(board, channel, bus, time):
+    return [9, board, channel, bus, time]
+
+
+def mix(board, time, samples):
+    return [10, board, time, len(samples), *samples]
+
+
 def parts(answered):
     """The answers one by one, each a list of numbers."""
     found = []
@@ -45,7 +65,10 @@ def parts(answered):
 
 def run(*calls):
     """The answer of each call, as a list of numbers."""
-    found = parts(answers([number for call in calls for number in call]))
+    numbers = [number for call in calls for number in call]
+    # More than this is never handed in.
+    assert len(calls) <= 1000 and len(numbers) <= 16000
+    found = parts(answers(numbers))
     assert len(found) == len(calls)
     return found
 
@@ -72,14 +95,24 @@ def with_check(octets):
     return list(octets + struct.pack("<I", crc_32c(octets)))
 
 
+def order_message(number, channel, bus, gain, fade, time, kind=1, zero=0):
+    """An order's message with a check that is right, whatever it tells."""
+    return with_check(struct.pack("<BBBBIQII", kind, channel, bus, zero, number, time, gain, fade))
+
+
+def seal_message(number, time, kind=2):
+    """A seal's message with a check that is right, whatever it tells."""
+    return with_check(struct.pack("<BBBBIQQ", kind, 0, 0, 0, number, time, 0))
+
+
 def order(number, channel, bus, gain, fade, time):
     """What is answered when an order is told: its number and its message."""
-    return [number] + with_check(struct.pack("<BBBBIQII", 1, channel, bus, 0, number, time, gain, fade))
+    return [number] + order_message(number, channel, bus, gain, fade, time)
 
 
 def sealing(number, time):
     """What is answered when a seal is made: how many orders there are and its message."""
-    return [number] + with_check(struct.pack("<BBBBIQQ", 2, 0, 0, 0, number, time, 0))
+    return [number] + seal_message(number, time)
 
 
 def filled(count):
